@@ -1,10 +1,13 @@
 """The calls on one object: read from one list of whole numbers, answered in another."""
 
+from fairsweets.shares import best_exchange
 from fairsweets.shares import best_order
+from fairsweets.shares import changed_places
 from fairsweets.shares import count_fair
 from fairsweets.shares import fewest_share
 from fairsweets.shares import fewest_sweets
 from fairsweets.shares import longest_chain
+from fairsweets.shares import other_mark
 from fairsweets.shares import treated_unfairly
 from fairsweets.shares import without_sweets
 
@@ -14,9 +17,12 @@ CHAIN = 2
 JUDGE = 3
 COUNT = 4
 ORDER = 5
+EXCHANGE = 6
+WOULD = 7
+MARK = 8
+SWAP = 9
 
 # By a call's number: how many whole numbers it hands over ahead of its row, and whether it has a row.
-# Calls that aren't answered yet stand here too, since what comes behind them is to be read rightly.
 PLAIN_NUMBERS = (1, 0, 1, 0, 1, 0, 0, 2, 2, 2, 0)
 HAS_ROW = (True, False, False, True, False, False, False, False, False, False, False)
 
@@ -28,6 +34,7 @@ REFUSED = -1
 NO_SUCH_CHILD = -2
 GETS_NONE = -3
 GETS_TOO_FEW = -4
+ONLY_ONE_CHILD = -6
 NO_CHILDREN = -9
 
 
@@ -79,6 +86,33 @@ class Children:
     def order(self):
         return best_order(self.ring, self.marks)
 
+    def exchange(self):
+        if len(self.marks) == 1:
+            return [ONLY_ONE_CHILD]
+        return best_exchange(self.ring, self.marks)
+
+    def would(self, child, new):
+        if child >= len(self.marks):
+            return [NO_SUCH_CHILD]
+        share = fewest_share(self.ring, other_mark(self.marks, child, new))
+        return [sum(share), share[child]]
+
+    def mark(self, child, new):
+        if child >= len(self.marks):
+            return [NO_SUCH_CHILD]
+        old = self.marks[child]
+        self.marks = other_mark(self.marks, child, new)
+        return [old]
+
+    def swap(self, child, other):
+        if child >= len(self.marks) or other >= len(self.marks):
+            return [NO_SUCH_CHILD]
+        self.marks = changed_places(self.marks, child, other)
+        return [fewest_sweets(self.ring, self.marks)]
+
+    def look(self):
+        return [self.ring, len(self.marks)] + self.marks
+
 
 def answer_call(children, number, plain, row):
     """The answer to the call of that number, which hands over these plain numbers and this row."""
@@ -97,7 +131,16 @@ def answer_call(children, number, plain, row):
         return children.ways(plain[0])
     if number == ORDER:
         return children.order()
-    raise NotImplementedError("this call is not answered yet")
+    if number == EXCHANGE:
+        return children.exchange()
+    if number == WOULD:
+        return children.would(plain[0], plain[1])
+    if number == MARK:
+        return children.mark(plain[0], plain[1])
+    if number == SWAP:
+        return children.swap(plain[0], plain[1])
+    # Look, the one call that is left: no other number is handed in.
+    return children.look()
 
 
 def answers(calls):

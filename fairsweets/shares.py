@@ -104,3 +104,28 @@ def best_order(ring, marks):
         found.append([fewest_sweets(ring, [marks[place] for place in order])] + order)
     # Lists are compared number by number, so fewer sweets count ahead of the order itself.
     return min(found)
+
+
+def other_mark(marks, child, new):
+    """The marks as they are with the new one for that child."""
+    changed = list(marks)
+    changed[child] = new
+    return changed
+
+
+def changed_places(marks, child, other):
+    """The marks as they are once these two have changed places; they may be one."""
+    return other_mark(other_mark(marks, child, marks[other]), other, marks[child])
+
+
+def best_exchange(ring, marks):
+    """How many sweets do at the fewest once two have changed places, then the first two with whom they do.
+
+    There are two children at least.
+    """
+    found = []
+    for high in range(len(marks)):
+        for low in range(high):
+            found.append([fewest_sweets(ring, changed_places(marks, low, high)), low, high])
+    # As with orders, fewer sweets count first, then the lower places.
+    return min(found)
